@@ -364,7 +364,7 @@ func TestOpenOfBase(t *testing.T) {
 			w := opens(t, d, c.last, rows)
 			keeps(t, d, "base", base, "log", head(c.turn, c.last))
 			w = opens(t, d, c.last, rows)
-			if c.last < api.MaxNumber {
+			if c.last < api.MaxNumber-1 {
 				adds(t, w, c.last+1, put1("a", "1"))
 				has(t, d, "base", base, "log", logOf(c.turn, c.last, ops(put1("a", "1"))))
 				opens(t, d, c.last+1, rows, ops(put1("a", "1")))
@@ -832,32 +832,58 @@ func TestAddOfLongRecord(t *testing.T) {
 	opens(t, d, 256, nil, full, many(1))
 }
 
-// P8.3: behind the batch of the number 2^53 - 1 there is none.
+// P8.3: no batch is written with the number 2^53 - 1, nor with one behind that; nothing changes.
 func TestAddNearTheLastNumber(t *testing.T) {
-	for _, left := range []int{3, 2, 1, 0} {
-		ahead := api.MaxNumber - left
-		d := diskOf(t, "base", baseOf(2, ahead))
-		w := opens(t, d, ahead, nil)
-		for i := range left {
-			adds(t, w, ahead+1+i, many(1)...)
+	// So many can be added yet; behind 2^53 - 2, and behind 2^53 - 1, none.
+	for _, c := range []struct{ ahead, left int }{{api.MaxNumber - 4, 3}, {api.MaxNumber - 3, 2}, {api.MaxNumber - 2, 1}, {api.MaxNumber - 1, 0}, {api.MaxNumber, 0}} {
+		d := diskOf(t, "base", baseOf(2, c.ahead))
+		w := opens(t, d, c.ahead, nil)
+		for i := range c.left {
+			adds(t, w, c.ahead+1+i, many(1)...)
 		}
+		last := c.ahead + c.left
 		before := files(d)
-		for _, synced := range []int{ahead, api.MaxNumber} {
-			if n, e := w.Add(many(1)); n != 0 || e != api.ErrLimit {
-				t.Errorf("%d, %d", n, e)
-			}
-			if n, e := w.Add(nil); n != 0 || e != api.ErrArg {
-				t.Errorf("%d, %d", n, e)
-			}
-			counts(t, w, api.MaxNumber, synced)
+		for _, synced := range []int{c.ahead, last} {
+			refusesTheNumber(t, w)
+			counts(t, w, last, synced)
 			well(t, w.Sync())
 		}
 		has(t, d, before...)
-		w = opens(t, d, api.MaxNumber, nil, slices.Repeat([][]api.Op{many(1)}, left)...)
+		w = opens(t, d, last, nil, slices.Repeat([][]api.Op{many(1)}, c.left)...)
+		refusesTheNumber(t, w)
+		has(t, d, before...)
 		well(t, w.Checkpoint(rowsTo(2)))
-		opens(t, d, api.MaxNumber, rowsTo(2))
-		keeps(t, d, "base", baseOf(3, api.MaxNumber, rowsTo(2)...), "log", head(3, api.MaxNumber))
+		refusesTheNumber(t, w)
+		opens(t, d, last, rowsTo(2))
+		keeps(t, d, "base", baseOf(3, last, rowsTo(2)...), "log", head(3, last))
 	}
+}
+
+// refusesTheNumber asks whether Add refuses a batch by its number, behind what is wrong with its changes.
+func refusesTheNumber(t *testing.T, w *Wal) {
+	t.Helper()
+	for _, c := range []struct {
+		l    []api.Op
+		want api.Errno
+	}{{many(1), api.ErrLimit}, {many(128), api.ErrLimit}, {ops(gone("a")), api.ErrLimit}, {nil, api.ErrArg}, {ops(put1("", "")), api.ErrArg}, {many(129), api.ErrLimit}} {
+		if n, e := w.Add(c.l); n != 0 || e != c.want {
+			t.Errorf("%d, %d; want 0, %d", n, e, c.want)
+		}
+	}
+}
+
+// P8.1: what Open reads may have the number 2^53 - 1, in a head or of a batch, though Add writes none.
+func TestOpenOfTheLastNumber(t *testing.T) {
+	base, log := baseOf(2, api.MaxNumber-3, rowsTo(1)...), logOf(2, api.MaxNumber-3, numbered(3)...)
+	d := diskOf(t, "base", base, "log", log)
+	w := opens(t, d, api.MaxNumber, rowsTo(1), numbered(3)...)
+	refusesTheNumber(t, w)
+	keeps(t, d, "base", base, "log", log)
+	w = opens(t, d, api.MaxNumber, rowsTo(1), numbered(3)...)
+	well(t, w.Checkpoint(rowsTo(2)))
+	w = opens(t, d, api.MaxNumber, rowsTo(2))
+	refusesTheNumber(t, w)
+	keeps(t, d, "base", baseOf(3, api.MaxNumber, rowsTo(2)...), "log", head(3, api.MaxNumber))
 }
 
 // P8.3: Sync keeps what was added, and can be asked again.
